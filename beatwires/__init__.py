@@ -1,0 +1,1 @@
+"""Circuits of registers and gates, and a language for them."""
