@@ -18,7 +18,8 @@ def order_of(reads):
             ready.append(name)
     at = 0
     while at < len(ready):
-        for name in readers[ready[at]]:
+        freed = readers[ready[at]]
+        for name in freed:
             waits[name] = waits[name] - 1
             if waits[name] == 0:
                 ready.append(name)

@@ -28,6 +28,13 @@ def constant_of(steps):
     return tuple(told)
 
 
+def put_together(sign, one, two):
+    """The number that two numbers with a sign of constants between them are."""
+    if sign == "*":
+        return one * two
+    return one + two if sign == "+" else one - two
+
+
 def constant_value(constant, widths):
     """The number that a constant is, for a dict of the numbers of widths; None if a name is none of these."""
     stack = []
@@ -37,7 +44,7 @@ def constant_value(constant, widths):
         elif step in CONSTANT_LEVELS:
             two = stack.pop()
             one = stack.pop()
-            stack.append({"+": one + two, "-": one - two, "*": one * two}[step])
+            stack.append(put_together(step, one, two))
         elif step in widths:
             stack.append(widths[step])
         else:

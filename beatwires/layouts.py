@@ -161,7 +161,8 @@ def is_behind(reads, name):
     seen = set()
     waiting = [name]
     while waiting:
-        for other in reads[waiting.pop()]:
+        read = reads[waiting.pop()]
+        for other in read:
             if other == name:
                 return True
             if other in reads and other not in seen:

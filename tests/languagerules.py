@@ -6,6 +6,8 @@ import pathlib
 import re
 import tokenize
 
+# A doctest that ran before this leaves its last answer there, as "_".
+GIVEN = [name for name in dir(builtins) if name != "_"]
 FOLDER = pathlib.Path(__file__).resolve().parent.parent / "beatwires"
 BUILTINS = set(
     "len range enumerate zip min max sum abs sorted reversed int str bool list tuple dict set isinstance ord repr any "
@@ -210,7 +212,7 @@ def names(file, node, say):
     if isinstance(node, ast.Name):
         told = node.id
         if isinstance(node.ctx, ast.Load):
-            known = told in BUILTINS or told not in dir(builtins)
+            known = told in BUILTINS or told not in GIVEN
             if not known:
                 say("L8", node, told)
             if told == "_":
@@ -235,7 +237,7 @@ def names(file, node, say):
         if not method or told not in DUNDERS:
             say("L5", node, told)
         return
-    if told in BARRED or told in BARRED_NAMES or told in dir(builtins) and not method:
+    if told in BARRED or told in BARRED_NAMES or told in GIVEN and not method:
         say("L15 L17", node, told)
     if not re.fullmatch(r"_?[A-Za-z][A-Za-z0-9_]*|_", told) or told.startswith(("_pe_", "_law_", "_stub_", "_record")):
         say("L12", node, told)
@@ -255,7 +257,7 @@ def calls(file, node, say):
         taken = isinstance(around, ast.Call) and isinstance(around.func, ast.Name) and around.func.id in TAKING
         if not looped and not taken:
             say("L23", node, node.func.attr)
-    if isinstance(node.func, ast.Name) and node.func.id in dir(builtins):
+    if isinstance(node.func, ast.Name) and node.func.id in GIVEN:
         for told in node.keywords:
             if told.arg not in ("key", "reverse", "default", "start", "strict"):
                 say("L22", node, told.arg)
