@@ -74,9 +74,7 @@ class Line:
         return told != "" and told[0] in FIGURES
 
     def figures(self):
-        """Goes on behind a number; returns it."""
-        if not self.has_figures():
-            self.refuse()
+        """Goes on behind the number that comes next; returns it."""
         told = int(self.peek())
         self.place += 1
         return told

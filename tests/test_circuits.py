@@ -144,6 +144,12 @@ class TestCircuit(unittest.TestCase):
             self.bad("g", (), (), (("g", kind, ("0",) * many),), ())
         self.bad("g", (), (), (("g", "and", ["0", "1"]),), ())
         self.bad("g", (), (), (("g", "and", "01"),), ())
+        self.bad("g", (), (), (("g", "and", {"0": 1, "1": 0}),), ())
+        self.bad(None, (), (["r", 0, "0"],), (), ())
+        self.bad(None, (), (), (["g", "not", ("0",)],), ())
+        self.bad(None, (), (), (), (["o", "0"],))
+        self.bad(None, (), (), (), ("oo",))
+        self.bad(None, (), (), (), ("o0",))
         self.assertEqual(len(gates_only(("g", "and", ("a",) * 60))), 1)
 
     def test_twice(self):
@@ -174,6 +180,10 @@ class TestCircuit(unittest.TestCase):
         self.bad("f", (), (), ring + (("f", "not", ("y",)),), ())
         self.bad("o", (), (), ring, (("o", "z"),))
         self.bad(None, (), tuple((f"r{at}", 2, "0") for at in range(61)), (), ())
+        for net in ("2", "01", "", "R"):
+            self.bad("r", (), (("q", 0, "0"), ("q", 0, "0"), ("r", 0, net)), (), ())
+            self.bad("g", (), (("q", 0, "0"), ("q", 0, "0")), (("g", "not", (net,)),), ())
+            self.bad("o", (), (("q", 0, "0"), ("q", 0, "0")), (), (("o", net),))
 
     def ring(self, *gates):
         with self.assertRaises(Looped) as caught:
@@ -192,6 +202,11 @@ class TestCircuit(unittest.TestCase):
         told = self.ring(("v", "not", ("f",)), ("f", "and", ("a", "g")), ("g", "and", ("h", "b")), ("h", "not", ("f",)),
                          ("u", "not", ("a",)))
         self.assertEqual(sorted(told), ["f", "g", "h"])
+        told = self.ring(("u", "not", ("a",)), ("v", "or", ("u", "f")), ("f", "and", ("u", "a", "g")),
+                         ("g", "and", ("u", "b", "f")))
+        self.assertEqual(sorted(told), ["f", "g"])
+        told = self.ring(("v", "or", ("w", "f")), ("w", "and", ("f", "a")), ("f", "xor", ("f", "1")))
+        self.assertEqual(told, ["f"])
 
     def test_long_ring_and_long_row(self):
         row = [("g0", "not", ("a",))] + [(f"g{at}", "not", (f"g{at - 1}",)) for at in range(1, 2000)]

@@ -47,7 +47,7 @@ class TestErrors(unittest.TestCase):
             for told in self.asked(BadDesign, module(head="module x(n, k)"), "x", *numbers):
                 self.assertEqual((told.module, told.name, told.why), ("x", "x", "widths"))
         for numbers in ((1, -1), (65536, 1), (1, True), (False, 1), ("1", 1), (1, None), ((1,), 2), (1, 2.0)):
-            for told in self.asked(BadDesign, module("input x[0]", head="module x(n, k)"), "x", *numbers):
+            for told in self.asked(BadDesign, module("input y[0]", head="module x(n, k)"), "x", *numbers):
                 self.assertEqual((told.module, told.name, told.why), ("x", "x", "number"))
         make(read_design(module(head="module x(n, k)")), "x", 0, 65535)
 

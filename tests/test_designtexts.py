@@ -179,7 +179,7 @@ class TestReadAndWrite(unittest.TestCase):
         self.expression("a[" + "(" * 29 + "b" + ")" * 29 + "]", "a[b]")
         self.expression("a << " + "(" * 30 + "3" + ")" * 30, "a << 3")
         self.item("input x[" + "(" * 30 + "3" + ")" * 30 + "]", "input x[3]")
-        self.item("part p = m(" + "(" * 30 + "3" + ")" * 30 + ")", "part p = m(3)")
+        self.item("part p = m(1, " + "(" * 30 + "3" + ")" * 30 + ")", "part p = m(1, 3)")
         self.item("write x[" + "(" * 30 + "a" + ")" * 30 + "] = " + "~" * 30 + "a when " + "~" * 30 + "a",
                   "write x[a] = " + "~" * 30 + "a when " + "~" * 30 + "a")
 
@@ -355,7 +355,7 @@ class TestBadText(unittest.TestCase):
                 "output x = " + "(" * 30 + "wide@(a, 3)" + ")" * 30, "input x[" + "(" * 30 + "@(3)" + ")" * 30 + "]",
                 "output x = wide(a, " + "(" * 29 + "@(3)" + ")" * 29 + ")", "part p = m(" + "(" * 30 + "@(3)" + ")" * 30 + ")",
                 "output x = (a + b)[" + "(" * 29 + "@(3)" + ")" * 29 + "]", "write x[" + "(" * 30 + "@(3" + ")" * 31 + "] = a",
-                "next x = a when " + "~" * 30 + "@~a", "register x = " + "(" * 30 + "@(3" + ")" * 31,
+                "part p = m(1, " + "(" * 30 + "@(3)" + ")" * 30 + ")", "next x = a when " + "~" * 30 + "@~a", "register x = " + "(" * 30 + "@(3" + ")" * 31,
                 "part p = m: a = " + "~" * 30 + "@~a", "output x = a[0.." + "(" * 29 + "@(3)" + ")" * 29 + "]"):
             self.marked(told)
         side = "(" * 30 + "a" + ")" * 30

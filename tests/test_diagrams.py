@@ -76,6 +76,7 @@ class TestOf(unittest.TestCase):
         self.assertFalse(Diagram.of(A, order) == Diagram.of(B, order))
         self.assertFalse(Diagram.of(A, ("a", "b")) == Diagram.of(A, ("a", "c")))
         self.assertFalse(Diagram.of(A, ("a",)) == Diagram.of(("not", A), ("a",)))
+        self.assertFalse(Diagram.of(("bit", 0), ("a",)) == Diagram.of(("bit", 1), ("a",)))
         self.assertFalse(Diagram.of(A, ("a",)) != Diagram.of(A, ("a",)))
         self.assertFalse(Diagram.of(A, ("a",)) == (("a",), ((0, -1, -2),), 0))
 

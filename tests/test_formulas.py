@@ -35,7 +35,8 @@ NO_FORMULAS = (
     ("and", ()), ("or", (A,)), ("or", [A, B]), ("xor", (A,)), ("xor", [A, B]), ("and", [A, B]), ("and", (A, "b")),
     ("and", (A, ["name", "b"])), ("pick", A, B), ("pick", A, B, C, A), ("pick", (A, B, C)), ("pick", A, B, "c"),
     ("nand", (A, B)), ("xnor", (A, B)), (A, B), (["and"], (A, B)), (1, A), ("and", (A, ("or", (B,)))),
-    ("not", ("not", ("bit", True))),
+    ("not", ("not", ("bit", True))), ("bit", "a"), ("name", 1), ("what", "a"), ("what", 1), ("", A), ("not", 1),
+    (None, "a"), (1, 1), "ab", "name", b"ab", {"name": "a"},
 )
 
 
@@ -83,7 +84,8 @@ class TestHolds(Refusing):
         self.refused("z", holds, told, {"a": 1, "x": 1, "y": 1, "b": 0})
         self.refused(None, holds, ("or", (("name", "z"), 5)), {})
         self.refused("z", holds, ("pick", ("bit", 0), ("name", "z"), A), {"a": 1})
-        self.refused("a", holds, A, {"a": True})
+        for bits in ({"a": True}, {"a": False}, {"a": 2}, {"a": None}, None, 5, [("a", 1)]):
+            self.refused("a", holds, A, bits)
 
     def test_bits_stay(self):
         bits = {"a": 1}
@@ -99,7 +101,7 @@ class TestWire(Refusing):
         self.assertEqual(Wire(("xor", (A, B))).told, ("xor", (A, B)))
         self.assertEqual(Wire(Wire("a")).told, A)
         for bad in NO_FORMULAS:
-            if bad != "a":
+            if bad not in ("a", "ab", "name"):
                 self.refused(None, Wire, bad)
         for bad in (True, False, 2, -1, "A", "", "1", "a" * 25, [A], {"a": 1}):
             self.refused(None, Wire, bad)

@@ -253,6 +253,9 @@ class TestParts(unittest.TestCase):
         self.assertEqual(made.circuit.inputs, ("a.0", "a.1", "a.2", "b"))
         self.assertEqual([name for name, _ in made.circuit.outputs], ["y.0", "y.1", "y.2", "y.3", "z"])
         self.assertEqual(made.row({"b": 1, "a": 6}), {"a.0": 0, "a.1": 1, "a.2": 1, "b": 1})
+        for bad in ({"a": 8, "b": 0}, {"a": 1}, {"a": 1, "b": True}, None):
+            with self.assertRaises(BadRow):
+                made.row(bad)
         self.assertEqual(made.numbers({"y.0": 0, "y.1": 1, "y.2": 0, "y.3": 1, "z": 1}), {"y": 10, "z": 1})
         self.assertEqual(list(made.numbers({"y.0": 0, "y.1": 1, "y.2": 0, "y.3": 1, "z": 1})), ["y", "z"])
 
@@ -265,6 +268,15 @@ class TestParts(unittest.TestCase):
         text = ("module sub\n  output d[3] = a - b\n  input a[3]\n  input b[3]\nend\n"
                 "module m\n  output x[3] = p.d\n  part p = sub: b = one, a = two\n  input one[3]\n  input two[3]\nend")
         self.assertEqual(values(text, [{"one": 2, "two": 7}, {"one": 1, "two": 0}]), [5, 7])
+
+    def test_no_gate_that_is_not_needed(self):
+        items = ("input a[4]", "input b", "wire far[4] = a + a - ~a", "output w[4] = a & 15'4 | 0'4 ^ 0'4",
+                 "output x[4] = b ? a : a", "output y = b & ~b | b ^ b", "output z[4] = {a[0], ~a[3..1]} << 1 >> 3",
+                 "output u = ~~b & (1 ? b : far[0])")
+        made = make(read_design(module(*items)), "m")
+        self.assertEqual([told[1:] for told in made.circuit.gates], [("not", ("a.3",))])
+        self.assertEqual([net for _, net in made.circuit.outputs],
+                         ["a.0", "a.1", "a.2", "a.3"] * 2 + ["0", made.circuit.gates[0][0], "0", "0", "0", "b"])
 
     def test_eight_deep(self):
         text = "module m0\n  input a\n  output b = ~a\nend\n"
