@@ -1,5 +1,7 @@
 """Gates that are put together, none where a net or a bit tells the same, and equal ones once."""
 
+from beatwires.circuitchecks import MOST_NETS
+
 
 class GateStore:
     """The gates that were needed up to now, each one behind those that it reads."""
@@ -10,7 +12,9 @@ class GateStore:
         self._denied = {}
 
     def gate(self, kind, nets):
-        """The net of a gate of a kind over a tuple of nets."""
+        """The net of a gate of a kind over a tuple of nets; of several gates, if they are too many for one."""
+        while len(nets) > MOST_NETS:
+            nets = nets[MOST_NETS:] + (self.gate(kind, nets[:MOST_NETS]),)
         key = (kind, nets)
         if key not in self._named:
             # No word of a design has this sign, so no bit of one has such a name.

@@ -145,6 +145,16 @@ class TestRegistersAndMemories(unittest.TestCase):
                        "output x[2] = r")
         self.assertEqual(values(plain, [{}] * 5), [2, 3, 2, 3, 2])
 
+    def test_more_resets_than_a_gate_has_nets(self):
+        pairs = [(at // 15, at % 15) for at in range(225)]
+        for many in (59, 60, 61, 118, 119, 120, 178, 179, 225):
+            lines = [f"reset r when a[{one}] & b[{other}]" for one, other in pairs[:many]]
+            text = module("input a[15]", "input b[15]", "register r[4] = 9", "next r = r + 1'4", *lines, "output x[4] = r")
+            rows = [{"a": 0, "b": 0}] + [{"a": 1 << one, "b": 1 << other} for one, other in pairs[::7] + pairs[-3:]]
+            values(text, rows + rows)
+            gates = make(read_design(text), "m").circuit.gates
+            self.assertLessEqual(max(len(nets) for _, _, nets in gates), 60)
+
     def test_registers_go_on_together(self):
         text = module("register r = 1", "register s = 0", "next r = s", "next s = r", "output x[2] = {r, s}")
         self.assertEqual(values(text, [{}] * 3), [2, 1, 2])
