@@ -97,12 +97,17 @@ def gates_in_order(gates):
     return [(name, kinds[name], reads[name]) for name in ordered]
 
 
+def is_state(registers, thing):
+    """Tells whether a thing is a tuple of a bit for each register."""
+    if not isinstance(thing, tuple) or len(thing) != len(registers):
+        return False
+    return all([is_bit(bit) for bit in thing])
+
+
 def check_state(registers, state):
     """Raises BadState if a state is no tuple of a bit for each register."""
-    if not isinstance(state, tuple) or len(state) != len(registers):
+    if not is_state(registers, state):
         raise BadState("no tuple of a bit for each register")
-    if not all([is_bit(bit) for bit in state]):
-        raise BadState("a state has bits alone")
 
 
 def check_row(inputs, row):

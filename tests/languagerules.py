@@ -243,18 +243,25 @@ def names(file, node, say):
         say("L12", node, told)
 
 
+def is_taken(node, around):
+    """Whether what is iterated at once is the first argument of a builtin that does so."""
+    if not isinstance(around, ast.Call) or not isinstance(around.func, ast.Name) or around.args[0] is not node:
+        return False
+    return around.func.id in TAKING and (around.func.id not in ("min", "max") or len(around.args) == 1)
+
+
 def calls(file, node, say):
     if not isinstance(node, ast.Call):
         return
     around = file.parents[node]
     if isinstance(node.func, ast.Name) and node.func.id in AT_ONCE:
         looped = isinstance(around, (ast.For, ast.comprehension)) and around.iter is node
-        taken = isinstance(around, ast.Call) and isinstance(around.func, ast.Name) and around.func.id in TAKING
+        taken = is_taken(node, around)
         if not looped and not taken:
             say("L23", node, node.func.id)
     if isinstance(node.func, ast.Attribute) and node.func.attr in ("items", "keys", "values"):
         looped = isinstance(around, (ast.For, ast.comprehension)) and around.iter is node
-        taken = isinstance(around, ast.Call) and isinstance(around.func, ast.Name) and around.func.id in TAKING
+        taken = is_taken(node, around)
         if not looped and not taken:
             say("L23", node, node.func.attr)
     if isinstance(node.func, ast.Name) and node.func.id in GIVEN:

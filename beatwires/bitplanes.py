@@ -1,0 +1,75 @@
+"""Bits of many places side by side in one integer: planes, the bit of the first place lowest."""
+
+from beatwires.formulachecks import parts_of
+
+FIGURES = "0123456789abcdef"
+
+
+def variable_plane(at, many):
+    """The plane over all numbers of so many bits that has the bit at a place of each of them."""
+    half = 1 << at
+    told = ((1 << half) - 1) << half
+    wide = 2 * half
+    while wide < 1 << many:
+        told = told | told << wide
+        wide = 2 * wide
+    return told
+
+
+def gate_plane(kind, planes, full):
+    """The plane of a gate of a kind for the list of those of its nets; full is the plane of 1."""
+    told = planes[0]
+    if kind == "not":
+        return full ^ told
+    if kind == "pick":
+        return planes[2] ^ told & (planes[1] ^ planes[2])
+    for plane in planes[1:]:
+        if kind == "and":
+            told = told & plane
+        elif kind == "or":
+            told = told | plane
+        else:
+            told = told ^ plane
+    return told
+
+
+def formula_plane(formula, planes, full):
+    """The plane of a formula for a dict of those of its names."""
+    if formula[0] == "name":
+        return planes[formula[1]]
+    if formula[0] == "bit":
+        return full if formula[1] else 0
+    return gate_plane(formula[0], [formula_plane(part, planes, full) for part in parts_of(formula)], full)
+
+
+def first_place(plane):
+    """The first place at which a plane has 1."""
+    return (plane & -plane).bit_length() - 1
+
+
+def figures_across(planes, many):
+    """The text of the figures to base 16 whose four bits some planes have, a figure for each of so many places."""
+    told = 1 << 4 * many
+    for at, plane in enumerate(planes):
+        # Read to base 16, the bits of a plane stand four apart, so that those of the others go between them.
+        told = told | int(f"{plane:b}", 16) << 3 - at
+    return f"{told:x}"[:0:-1]
+
+
+def figure_numbers():
+    """The dict from the pairs of figures to base 16 to their numbers."""
+    return {(high, low): int(high + low, 16) for high in FIGURES for low in FIGURES}
+
+
+def numbers_across(planes, many, known):
+    """The list of the numbers whose bits some planes have, the uppermost first, for each of so many places.
+
+    What is known are the numbers of pairs of figures.
+    """
+    eights = [0] * (-len(planes) & 7) + planes
+    told = [0] * many
+    for at in range(0, len(eights), 8):
+        highs = figures_across(eights[at:at + 4], many)
+        lows = figures_across(eights[at + 4:at + 8], many)
+        told = [old << 8 | known[(high, low)] for old, high, low in zip(told, highs, lows)]
+    return told
