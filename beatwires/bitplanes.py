@@ -42,6 +42,11 @@ def formula_plane(formula, planes, full):
     return gate_plane(formula[0], [formula_plane(part, planes, full) for part in parts_of(formula)], full)
 
 
+def signs_of(plane, many):
+    """The text of the bits of a plane of so many places, that of the first place first."""
+    return f"{plane | 1 << many:b}"[:0:-1]
+
+
 def first_place(plane):
     """The first place at which a plane has 1."""
     return (plane & -plane).bit_length() - 1

@@ -4,7 +4,7 @@ from beatwires.circuits import copied_rows, state_behind
 from beatwires.evidencerows import need_rows, tells_apart
 from beatwires.freestarts import check_asked
 from beatwires.likestates import like_classes
-from beatwires.longestways import longest_ways
+from beatwires.longestways import falling_way, longest_ways
 from beatwires.pairing import Pairs
 from beatwires.searching import is_closed, reach, rows_along, rows_to_goal, seek, stays_within
 from beatwires.statesets import members, set_of
@@ -139,15 +139,6 @@ def images(pairs, begins, number):
     for _ in range(number):
         layers.append(sorted({heir for pair in layers[-1] for heir in pairs.heirs(pair)}))
     return layers
-
-
-def falling_way(graph, heights, begin):
-    """A way of as many pairs as the height of its first one is."""
-    way = [begin]
-    while heights[way[-1]] > 1:
-        below = heights[way[-1]] - 1
-        way.append([heir for heir in graph.later(way[-1]) if heights[heir] == below][0])
-    return way
 
 
 def told_by_way(pairs, way):

@@ -4,12 +4,12 @@ from beatwires.circuits import copied_rows, state_behind
 from beatwires.evidencerows import need_circuit, need_rows, register_names
 from beatwires.searching import layers_from, path_to, reach, rows_along
 from beatwires.statesets import numbers_in, set_of
-from beatwires.stepping import Steps, number_of_bits, plain_weights
+from beatwires.stepping import Steps, number_of_bits, plain_weights, read_inputs
 
 
 def steps_of(circuit, asked):
     """The Steps of a circuit by itself, with some formulas that are asked."""
-    return Steps(circuit, circuit.inputs, asked, plain_weights(len(circuit.registers)))
+    return Steps(circuit, read_inputs(circuit, asked), asked, plain_weights(len(circuit.registers)))
 
 
 def state_order(circuit):

@@ -4,10 +4,11 @@
 def like_classes(steps):
     """The dict from the states to numbers that are the same for those that show the same."""
     classes = numbered({state: steps.shown(state) for state in steps.states})
+    rows = {state: steps.moves(state).by_rows() for state in steps.states}
     last = -1
     while max(list(classes.values())) > last:
         last = max(list(classes.values()))
-        heirs = {state: tuple([classes[heir] for heir in steps.heirs(state)]) for state in steps.states}
+        heirs = {state: tuple([classes[heir] for heir in rows[state]]) for state in steps.states}
         classes = numbered({state: (classes[state], heirs[state]) for state in steps.states})
     return classes
 

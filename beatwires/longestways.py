@@ -35,3 +35,12 @@ def follow_ways(graph, begin, heights):
             left[heir] = list(behind[heir])
             way.append(heir)
     return [], None
+
+
+def falling_way(graph, heights, begin):
+    """A way of as many numbers as the height of its first one is."""
+    way = [begin]
+    while heights[way[-1]] > 1:
+        below = heights[way[-1]] - 1
+        way.append([heir for heir in graph.later(way[-1]) if heights[heir] == below][0])
+    return way

@@ -2,7 +2,8 @@
 
 from beatwires.bitplanes import first_place
 from beatwires.errors import Unlike
-from beatwires.stepping import Steps, net_formula, plain_weights, row_of
+from beatwires.moves import both_moves
+from beatwires.stepping import Steps, net_formula, plain_weights, read_inputs
 
 
 def check_ports(one, other):
@@ -39,24 +40,35 @@ class Pairs:
 
     def __init__(self, one, two):
         self.order = pair_order(one, two)
-        self.inputs = one.inputs
         self.total = 1 << len(self.order)
         weights = plain_weights(len(self.order))
-        sides = [[weights[at] for at, name in enumerate(self.order) if name[:4] == side] for side in ("one.", "two.")]
-        self.first = Steps(one, self.inputs, shown_outputs(one), sides[0])
-        self.second = Steps(two, self.inputs, shown_outputs(two), sides[1])
+        firsts, seconds = [
+            [weights[at] for at, name in enumerate(self.order) if name[:4] == side] for side in ("one.", "two.")]
+        read = read_inputs(one, shown_outputs(one)) + read_inputs(two, shown_outputs(two))
+        self._inputs = [name for name in one.inputs if name in read]
+        self._mask = sum(firsts)
+        self.first = Steps(one, self._inputs, shown_outputs(one), firsts)
+        self.second = Steps(two, self._inputs, shown_outputs(two), seconds)
         self.begin = self.first.begin + self.second.begin
-        self._mask = sum(sides[0])
+
+    def put_second(self, two):
+        """Puts a circuit with the same registers in the place of the second one, which reads no other inputs."""
+        self.second = Steps(two, self._inputs, shown_outputs(two), self.second.weights)
+        self.begin = self.first.begin + self.second.begin
 
     def halves(self, pair):
         """The state of the first circuit and that of the second one."""
         return pair & self._mask, pair & ~self._mask
 
     def heirs(self, pair):
-        """The list of the next pairs for the rows, by their numbers."""
-        firsts = self.first.heirs(pair & self._mask)
-        seconds = self.second.heirs(pair & ~self._mask)
-        return [one + two for one, two in zip(firsts, seconds)]
+        """The list of the next pairs, perhaps more than once."""
+        return both_moves(self.first.moves(pair & self._mask), self.second.moves(pair & ~self._mask))
+
+    def row_to(self, pair, heir):
+        """The number of the first row that leads from a pair to another one."""
+        firsts = self.first.moves(pair & self._mask).by_rows()
+        seconds = self.second.moves(pair & ~self._mask).by_rows()
+        return [one + two for one, two in zip(firsts, seconds)].index(heir)
 
     def is_goal(self, pair):
         """Tells whether an output is unlike for some row."""
@@ -73,4 +85,4 @@ class Pairs:
 
     def row(self, number):
         """The row with a number."""
-        return row_of(self.inputs, number)
+        return self.first.row(number)

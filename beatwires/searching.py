@@ -58,7 +58,7 @@ def path_to(found, number):
 
 def rows_along(system, path):
     """The list of the first rows that lead along a path."""
-    return [system.row(system.heirs(path[at]).index(path[at + 1])) for at in range(len(path) - 1)]
+    return [system.row(system.row_to(path[at], path[at + 1])) for at in range(len(path) - 1)]
 
 
 def rows_to_goal(system, found, goal):
