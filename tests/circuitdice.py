@@ -20,6 +20,19 @@ def circuit(dice, registers, inputs, gates, outputs, head="r"):
     return Circuit(ins, held, tuple(told), tuple((f"o{at}", dice.choice(names)) for at in range(outputs)))
 
 
+def small(dice, least, most):
+    """A circuit with so few registers that all can be tried, now and then one with many inputs, all of which are read."""
+    if dice.random() < 0.8:
+        return circuit(dice, dice.randint(least, most), dice.randint(0, 2), 6, 1)
+    many = dice.randint(5, 6)
+    one = circuit(dice, dice.randint(max(1, least), min(most, 3)), many, 6, 1)
+    net = one.registers[0][2]
+    gates = (("all", dice.choice(["xor", "and", "or"]), (*one.inputs, dice.choice(["r0", net]))),
+             ("g", dice.choice(["pick", "pick"]), ("all", net, dice.choice(["i0", "r0", "1"]))))
+    held = (one.registers[0][:2] + (dice.choice(["all", "g"]),), *one.registers[1:])
+    return Circuit(one.inputs, held, one.gates + gates, one.outputs)
+
+
 def all_rows(circuit):
     """All rows of a circuit."""
     return [dict(zip(circuit.inputs, bits)) for bits in itertools.product((0, 1), repeat=len(circuit.inputs))]

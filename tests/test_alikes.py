@@ -52,9 +52,12 @@ class TestJudging(unittest.TestCase):
         dice = random.Random(7)
         seen = []
         for _ in range(150):
-            many = dice.randint(0, 2)
-            one = circuitdice.circuit(dice, dice.randint(0, 3), many, 6, 1)
-            other = circuitdice.circuit(dice, dice.randint(0, 3), many, 6, 1, dice.choice("rq"))
+            one = circuitdice.small(dice, 0, 3)
+            other = circuitdice.circuit(dice, dice.randint(0, 3), len(one.inputs), 6, 1, dice.choice("rq"))
+            if dice.random() < 0.2:
+                other = Circuit(one.inputs, one.registers[::-1], tuple(
+                    (name, kind, nets[::-1] if kind in ("and", "or", "xor") else nets) for name, kind, nets in one.gates),
+                    one.outputs)
             fewest = circuitdice.unlike_after(one, other).get((one.starts(), other.starts()))
             found = judge_alike(one, other)
             self.assertEqual(bool(found), fewest is None)
@@ -110,6 +113,8 @@ class TestShowing(unittest.TestCase):
         for order in (("one.r", "one.s", "two.r", "two.s"), ("two.r", "one.r", "two.s", "one.s"),
                       ("one.r", "two.r", "one.s", "two.s", "more")):
             self.assertFalse(Alike(Diagram.of(same, order)).shows(LATE, LATE))
+        closed = right.closed
+        self.assertFalse(Alike(Diagram(("a", "b", "c", "d"), closed.rows, closed.root)).shows(LATE, LATE))
         right.closed = Diagram((), (), -2)
         self.assertFalse(right.shows(LATE, LATE))
 

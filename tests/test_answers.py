@@ -66,6 +66,11 @@ class TestJudging(unittest.TestCase):
             self.assertIs(bool(found), False)
             self.assertTrue(found.loop)
             self.assertTrue(found.shows(one, when, then))
+        turns = Circuit((), (("r", 1, "t"), ("s", 0, "r"), ("t", 0, "s"), ("u", 0, "1")), (), ())
+        for when in (YES, ("name", "s"), ("not", ("name", "u"))):
+            found = judge_answer(turns, when, NO)
+            self.assertEqual(len(found.loop) % 3, 0)
+            self.assertTrue(found.shows(turns, when, NO))
         gates = (("h", "or", ("ask", "r")), ("n", "not", ("stop",)), ("k", "and", ("h", "stop")), ("d", "and", ("h", "n")))
         held = Circuit(("ask", "stop"), (("r", 0, "k"), ("s", 0, "d")), gates, ())
         found = judge_answer(held, ASK, ("name", "s"))
@@ -76,7 +81,7 @@ class TestJudging(unittest.TestCase):
         dice = random.Random(15)
         seen = set()
         for _ in range(200):
-            one = circuitdice.circuit(dice, dice.randint(0, 4), dice.randint(0, 2), 6, 1)
+            one = circuitdice.small(dice, 0, 4)
             # Many registers hand on what another one has, so that some waits are longer.
             held = [(name, start, dice.choice([f"r{max(0, at - 1)}", f"r{max(0, at - 1)}", net]))
                     for at, (name, start, net) in enumerate(one.registers)]
@@ -150,6 +155,9 @@ class TestShowing(unittest.TestCase):
         part = Diagram.of(("and", (("name", "r"), ("name", "s"))), order)
         self.assertFalse(shows(0, part), "without the starts")
         self.assertFalse(shows(0, Diagram.of(("not", ("name", "t")), order)), "not closed")
+        first = Diagram.of(("and", tuple(("not", ("name", name)) for name in order)), order)
+        self.assertFalse(Within(0, [], [first, none]).shows(LINE, NO, NO), "not closed, but nothing waits")
+        self.assertTrue(Within(0, [], [every, none]).shows(LINE, NO, NO))
         # r is 1 behind the first tick of a wait; more states may stand there, if what follows has those behind them.
         self.assertEqual(right.layers[1], Diagram.of(("name", "r"), order))
         larger = Diagram.of(("or", (("name", "r"), ("and", (("name", "s"), ("name", "t"))))), order)
@@ -172,7 +180,7 @@ class TestShowing(unittest.TestCase):
         right = judge_answer(LINE, ASK, COME)
         ask, none = {"ask": 1}, {"ask": 0}
         for rows, told in (([ask, none, none], True), ([none, ask, ask, ask], True), ([none] * 3, False),
-                           ([ask, none], False), ([], False), ([ask, none, none, none], False),
+                           ([ask, none], False), ([none, ask], False), ([], False), ([ask, none, none, none], False),
                            ([ask, ask, none, none], False), ([ask, ask, ask, ask], False)):
             self.assertEqual(Within(3, rows, right.layers).shows(LINE, ASK, COME), told, rows)
         for row in ({}, {"ask": 2}, {"ask": True}, {"ask": 1, "x": 0}, None):

@@ -69,7 +69,7 @@ class TestJudging(unittest.TestCase):
         dice = random.Random(10)
         seen = []
         for _ in range(150):
-            one = circuitdice.circuit(dice, dice.randint(1, 3), dice.randint(0, 2), 5, 1)
+            one = circuitdice.small(dice, 1, 3)
             names = [told[0] for told in one.registers if dice.random() < 0.7]
             apart = circuitdice.unlike_after(one, one)
             sets = pairs_by_ticks(one, names, 70)
@@ -147,6 +147,9 @@ class TestShowing(unittest.TestCase):
         self.assertFalse(shows(right.layers[:2] + [every], right.closed))
         self.assertTrue(shows(right.layers[:2] + [even], even), "a larger layer")
         self.assertFalse(shows(right.layers, Diagram.of(same, order[::-1])), "another order")
+        named = [Diagram(tuple("abcdef"), told.rows, told.root) for told in right.layers + [right.closed]]
+        self.assertFalse(shows(named[:-1], right.closed))
+        self.assertFalse(shows(right.layers, named[-1]))
         self.assertFalse(shows([Diagram.of(("bit", 1), order[::-1])] + right.layers[1:], right.closed))
         self.assertFalse(Forgets(2, right.layers, right.closed, right.state, right.rows).shows(LINE, ["r", "s"]))
 

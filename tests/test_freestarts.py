@@ -71,7 +71,7 @@ class TestJudging(unittest.TestCase):
         dice = random.Random(9)
         seen = []
         for _ in range(120):
-            one = circuitdice.circuit(dice, dice.randint(0, 4), dice.randint(0, 2), 6, 1)
+            one = circuitdice.small(dice, 0, 4)
             names = [told[0] for told in one.registers]
             apart = circuitdice.unlike_after(one, one)
             subsets = [some for many in range(len(names), -1, -1) for some in itertools.combinations(names, many)]
@@ -134,6 +134,8 @@ class TestShowing(unittest.TestCase):
         self.assertFalse(Free(Diagram.of(("not", starts), order)).shows(SEEN, []), "without the starts")
         other = ("one.r", "one.s", "one.t", "two.r", "two.s", "two.t")
         self.assertFalse(Free(Diagram.of(unseen, other)).shows(SEEN, ["r", "s"]), "another order")
+        for named in (tuple(f"x{at}" for at in range(6)), order[1:] + order[:1]):
+            self.assertFalse(Free(Diagram(named, larger.closed.rows, larger.closed.root)).shows(SEEN, ["r", "s"]))
 
     def test_rows_and_states(self):
         row = {"a": 0}

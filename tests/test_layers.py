@@ -44,7 +44,7 @@ class TestLayers(unittest.TestCase):
         dice = random.Random(8)
         numbers = []
         for _ in range(120):
-            one = circuitdice.circuit(dice, dice.randint(0, 4), dice.randint(0, 3), 7, 1)
+            one = circuitdice.small(dice, 0, 4)
             layers = circuitdice.state_layers(one)
             order = tuple(told[0] for told in one.registers)
             self.assertEqual(reached(one).order, order)
@@ -99,6 +99,10 @@ class TestShowing(unittest.TestCase):
             self.assertFalse(Deepest(3, [go] * 3, layers).shows(one))
             layers[at] = Diagram(("c0",), (), -2)
             self.assertFalse(Deepest(3, [go] * 3, layers).shows(one))
+        self.assertFalse(Deepest(3, [stop] + [go] * 3, right.layers).shows(one), "more rows than the number")
+        self.assertFalse(Deepest(4, [stop] + [go] * 3, right.layers).shows(one), "fewer layers than the number asks")
+        named = [Diagram(("x", "y"), layer.rows, layer.root) for layer in right.layers]
+        self.assertFalse(Deepest(3, right.rows, named).shows(one))
         turned = [Diagram.of(("bit", 1), ("x",))] + right.layers[1:]
         self.assertFalse(Deepest(3, [go] * 3, turned).shows(one))
 

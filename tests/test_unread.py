@@ -45,7 +45,7 @@ class TestJudging(unittest.TestCase):
         dice = random.Random(11)
         seen = []
         for _ in range(120):
-            one = circuitdice.circuit(dice, dice.randint(1, 4), dice.randint(0, 2), 6, 1)
+            one = circuitdice.small(dice, 1, 4)
             names = [told[0] for told in one.registers]
             apart = circuitdice.unlike_after(one, one)
             states = set().union(*circuitdice.state_layers(one))
@@ -85,6 +85,9 @@ class TestShowing(unittest.TestCase):
         self.assertFalse(shows(right.states, right.closed, "a"))
         self.assertFalse(shows(Diagram(NAMES[::-1], right.states.rows, right.states.root), right.closed))
         self.assertFalse(shows(right.states, Diagram(order[::-1], right.closed.rows, right.closed.root)))
+        self.assertFalse(shows(Diagram(tuple("vwxyz"), right.states.rows, right.states.root), right.closed))
+        named = tuple(f"x{at}" for at in range(10))
+        self.assertFalse(shows(right.states, Diagram(named, right.closed.rows, right.closed.root)))
         pair = Diagram.of(("and", (same, ("not", ("name", "one.c")))), order)
         self.assertFalse(shows(right.states, pair), "not closed")
 
@@ -173,7 +176,7 @@ class TestStuck(unittest.TestCase):
         dice = random.Random(12)
         seen = set()
         for _ in range(40):
-            one = circuitdice.circuit(dice, dice.randint(0, 3), dice.randint(0, 2), 4, 1)
+            one = circuitdice.small(dice, 0, 3)
             told = all_tests(one)
             names = [told[0] for told in one.registers + one.gates]
             self.assertEqual(list(told), [(name, bit) for name in names for bit in (0, 1)])
