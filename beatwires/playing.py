@@ -1,6 +1,5 @@
 """Designs played word by word."""
 
-from beatwires.bitnumbers import is_wide
 from beatwires.circuits import copied_rows
 from beatwires.layouts import lay_out
 from beatwires.rowchecks import check_numbers

@@ -75,6 +75,22 @@ class TestJudging(unittest.TestCase):
             self.assertIn(tuple(start[name] for name in order), inside)
         self.assertTrue({None, 1, 2, 3} <= set(seen))
 
+    def test_many_next_states_beside_few(self):
+        ins = tuple(f"i{at}" for at in range(5))
+        many = Circuit(ins, tuple((f"r{at}", 0, f"i{at}") for at in range(5)), (), (("o", "r2"),))
+        few = Circuit(ins, (("x", 0, "i2"),), (), (("o", "x"),))
+        late = Circuit(ins, (("x", 0, "i2"), ("y", 0, "x")), (), (("o", "y"),))
+        for one, other in ((many, few), (few, many)):
+            found = judge_alike(one, other)
+            self.assertEqual(found.closed.many(), 32)
+            self.assertTrue(found.shows(one, other))
+            for first, second in ((one, late), (late, other)):
+                found = judge_alike(first, second)
+                self.assertEqual([len(found.rows), found.rows[0]["i2"]], [2, 1])
+                self.assertTrue(found.shows(first, second))
+        self.assertEqual(judge_alike(many, many).closed.many(), 32)
+        self.assertEqual(judge_alike(few, few).closed.many(), 2)
+
     def test_sixteen_registers_and_eight_inputs(self):
         ins = tuple(f"i{at}" for at in range(8))
 

@@ -129,7 +129,10 @@ class TestAlways(unittest.TestCase):
         found = judge_always(one, ("name", "r0"))
         self.assertEqual(found.closed.many(), 1 << 15)
         self.assertTrue(found.shows(one, ("name", "r0")))
-        self.assertEqual(twins(one), [[("0", False), ("r0", True)]])
+        late = [("r0", 0, "g")] + [(f"r{at}", 0, f"r{at - 1}") for at in range(1, 15)] + [("s", 0, "n")]
+        line = Circuit(ins, tuple(late), (("g", "or", ins), ("h", "not", ("r3",)), ("n", "and", ("r13", "r13"))), ())
+        self.assertEqual(twins(line), [
+            [("r3", False), ("h", True)], [("r13", False), ("n", False)], [("r14", False), ("s", False)]])
         self.assertLess(time.perf_counter() - since, 60)
 
 

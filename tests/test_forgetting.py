@@ -68,7 +68,7 @@ class TestJudging(unittest.TestCase):
     def test_against_trying_all_pairs(self):
         dice = random.Random(10)
         seen = []
-        for _ in range(150):
+        for _ in range(100):
             one = circuitdice.small(dice, 1, 3)
             names = [told[0] for told in one.registers if dice.random() < 0.7]
             apart = circuitdice.unlike_after(one, one)
