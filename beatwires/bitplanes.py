@@ -61,20 +61,19 @@ def figures_across(planes, many):
     return f"{told:x}"[:0:-1]
 
 
-def figure_numbers():
-    """The dict from the pairs of figures to base 16 to their numbers."""
-    return {(high, low): int(high + low, 16) for high in FIGURES for low in FIGURES}
+def figure_numbers(things):
+    """The dict from the tuples of figures to base 16 of the places in a list to what stands there."""
+    told = {(): 0}
+    while () in told or len(told) < len(things):
+        told = {figures + (figure,): 16 * told[figures] + at for figures in told for at, figure in enumerate(FIGURES)}
+    return {figures: things[told[figures]] for figures in told if told[figures] < len(things)}
 
 
 def numbers_across(planes, many, known):
-    """The list of the numbers whose bits some planes have, the uppermost first, for each of so many places.
+    """The list of what is known, by figure_numbers, for the numbers whose bits some planes have at so many places.
 
-    What is known are the numbers of pairs of figures.
+    The first plane has the uppermost bits.
     """
-    eights = [0] * (-len(planes) & 7) + planes
-    told = [0] * many
-    for at in range(0, len(eights), 8):
-        highs = figures_across(eights[at:at + 4], many)
-        lows = figures_across(eights[at + 4:at + 8], many)
-        told = [old << 8 | known[(high, low)] for old, high, low in zip(told, highs, lows)]
-    return told
+    fours = [0] * (-max(1, len(planes)) & 3) + (planes or [0])
+    texts = [figures_across(fours[at:at + 4], many) for at in range(0, len(fours), 4)]
+    return [known[figures] for figures in zip(*texts)]

@@ -76,7 +76,7 @@ class Steps:
         self._fixed.update({"0": 0, "1": (1 << (1 << self._bits)) - 1})
         for at, name in enumerate(self._names[len(weights) - self._loose:] + inputs):
             self._fixed[name] = variable_plane(self._bits - 1 - at, self._bits)
-        self._known = figure_numbers()
+        self._known = {}
         self._moves = {}
         self._ways = {}
         self._shown = {}
@@ -151,7 +151,9 @@ class Steps:
 
     def listed(self, goals, many):
         """The list of the next states for so many places."""
-        return [self.states[place] for place in numbers_across(goals, many, self._known)]
+        if not self._known:
+            self._known = figure_numbers(self.states)
+        return numbers_across(goals, many, self._known)
 
     def found_moves(self, goals, full):
         """The moves of a state for the planes of its next bits."""

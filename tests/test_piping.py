@@ -108,7 +108,8 @@ class TestShowing(unittest.TestCase):
             self.assertEqual(Right(standings).shows(EARLY), told)
         for more in (((("", 0), ("", 1)),), ((("add", 1), ("", 0)),), ((("", 0), ("add", 2)),), ((("", 0), ("add", 0)),),
                      ((("", 0), ("sub", 1)),), start * 2, (), ((),), ((("", 1),),), ((("", 0), ("", 0)),),
-                     ((("", 1), ("", 0)),), ((("", 2),),), ((("", 0), ("add", True)),), ((("", 0, 0),),), ([("", 0)],)):
+                     ((("", 1), ("", 0)),), ((("", 2),),), ((("", 0), ("add", True)),), ((("", 0, 0),),), ([("", 0)],), [(("", 0),)], (((["add"], 1), ("", 0)),),
+                     ((["", 0],),), (((None, 1), ("", 0)),), None, 5):
             self.assertFalse(Right([start, behind, more]).shows(EARLY), more)
         self.assertFalse(right.shows(LATE))
         self.assertFalse(right.shows(Pipe(1, {"sub": (1, 2, 1)})))
@@ -116,6 +117,15 @@ class TestShowing(unittest.TestCase):
         found = judge_pipe(EARLY)
         found.standings.pop()
         self.assertFalse(found.shows(EARLY))
+
+    def test_standings_that_do_not_end_right(self):
+        pipe = Pipe(1, MIXED, orders=False)
+        standings = [pipe.start()]
+        for standing in standings:
+            standings += [to for to in [pipe.follow(standing, one)[2] for one in pipe.instructions()] if to not in standings]
+        self.assertTrue(all(pipe.follow(one, told)[1] for one in standings for told in pipe.instructions()))
+        self.assertFalse(Right(standings).shows(pipe))
+        self.assertTrue(all(to in standings for to in judge_pipe(Pipe(1, MIXED)).standings))
 
     def test_a_larger_list_that_is_still_closed(self):
         pipe = Pipe(2, {"a": (0, 3, None)})
@@ -201,7 +211,7 @@ class TestChosen(unittest.TestCase):
         for against, told in (({0: wrong, 2: wrong}, True), ({2: wrong, 0: wrong + wrong}, True), ({0: wrong}, False),
                               ({2: wrong}, False), ({}, False), ({0: wrong, 2: wrong, 3: wrong}, False),
                               ({0: wrong, 2: [ADD]}, False), ({0: [], 2: wrong}, False),
-                              ({0: wrong, 2: wrong, 1: wrong}, False), ({0: wrong, 2: wrong, 7: wrong}, False),
+                              ({0: wrong, 2: wrong, 1: wrong}, False), ({0: wrong, 2: wrong, 7: wrong}, False), ({0: wrong, 2: wrong, 4: wrong}, False),
                               ({0: wrong, 2: wrong, -2: wrong}, False)):
             self.assertEqual(Chosen(1, against).shows(choices), told, against)
         for program in ([5], [ADD, ("add", 0, ())]):
