@@ -17,11 +17,15 @@ class GateStore:
             nets = nets[MOST_NETS:] + (self.gate(kind, nets[:MOST_NETS]),)
         key = (kind, nets)
         if key not in self._named:
-            # No word of a design has this sign, so no bit of one has such a name.
-            name = f"g_{len(self.gates)}"
+            name = self.next_name()
             self._named[key] = name
             self.gates.append((name, kind, nets))
         return self._named[key]
+
+    def next_name(self):
+        """The name of the next gate."""
+        # No word of a design has this sign, so no bit of one has such a name.
+        return f"g_{len(self.gates)}"
 
     def denied(self, net):
         """The net that has the other bit."""
@@ -43,17 +47,21 @@ class GateStore:
 
     def joined(self, kind, nets, strong, weak):
         """The net of an and or an or, by the bit that settles it and the one that may be left out."""
-        kept = sorted({net for net in nets if net != weak})
-        if strong in kept or any([self._denied.get(net, "") in kept for net in kept]):
+        told = {net: True for net in nets if net != weak}
+        if strong in told or any([self._denied.get(net, "") in told for net in told]):
             return strong
+        kept = sorted(told)
         if not kept:
             return weak
         return kept[0] if len(kept) == 1 else self.gate(kind, tuple(kept))
 
     def odd(self, nets):
         """The net that has 1 if an odd number of nets of a list has it."""
-        turned = nets.count("1") & 1
-        kept = [net for net in sorted({net for net in nets if net not in ("0", "1")}) if nets.count(net) & 1]
+        odd = {net: False for net in nets}
+        for net in nets:
+            odd[net] = not odd[net]
+        turned = odd.get("1", False)
+        kept = [net for net in sorted(odd) if odd[net] and net not in ("0", "1")]
         if not kept:
             return "1" if turned else "0"
         if len(kept) == 1:

@@ -4,7 +4,7 @@
 def like_classes(steps):
     """The dict from the states to numbers that are the same for those that show the same."""
     classes = numbered({state: steps.shown(state) for state in steps.states})
-    rows = {state: steps.moves(state).by_rows() for state in steps.states}
+    rows = {state: steps.moves_from(state).by_rows() for state in steps.states}
     last = -1
     while max(list(classes.values())) > last:
         last = max(list(classes.values()))

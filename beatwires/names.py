@@ -4,6 +4,7 @@ LETTERS = "abcdefghijklmnopqrstuvwxyz"
 FIGURES = "0123456789"
 NAME_SIGNS = "abcdefghijklmnopqrstuvwxyz0123456789_."
 LONGEST_NAME = 24
+LONGEST_WORD = 8
 
 
 def is_number(thing):
@@ -26,3 +27,8 @@ def is_name(thing, longest=LONGEST_NAME):
 def is_net(thing):
     """Tells whether a thing is a name or the text of a bit."""
     return is_name(thing) or isinstance(thing, str) and thing in ("0", "1")
+
+
+def is_word(thing):
+    """Tells whether a thing is a word of small letters that is not too long."""
+    return isinstance(thing, str) and 1 <= len(thing) <= LONGEST_WORD and all([sign in LETTERS for sign in thing])

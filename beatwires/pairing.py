@@ -62,12 +62,12 @@ class Pairs:
 
     def heirs(self, pair):
         """The list of the next pairs, perhaps more than once."""
-        return both_moves(self.first.moves(pair & self._mask), self.second.moves(pair & ~self._mask))
+        return both_moves(self.first.moves_from(pair & self._mask), self.second.moves_from(pair & ~self._mask))
 
     def row_to(self, pair, heir):
         """The number of the first row that leads from a pair to another one."""
-        firsts = self.first.moves(pair & self._mask).by_rows()
-        seconds = self.second.moves(pair & ~self._mask).by_rows()
+        firsts = self.first.moves_from(pair & self._mask).by_rows()
+        seconds = self.second.moves_from(pair & ~self._mask).by_rows()
         return [one + two for one, two in zip(firsts, seconds)].index(heir)
 
     def is_goal(self, pair):

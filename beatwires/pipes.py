@@ -1,6 +1,6 @@
 """Pipes of instructions, and what they and the plain machine make of programs."""
 
-from beatwires.names import LETTERS, is_number
+from beatwires.names import is_number, is_word
 from beatwires.pipesteps import PRESENT, WRITTEN, aged, can_be_read, ended, is_held, put_under_way, read_entry
 from beatwires.planerrors import BadPipe, BadProgram
 
@@ -8,7 +8,6 @@ MOST_REGISTERS = 4
 MOST_KINDS = 4
 MOST_SOURCES = 2
 LONGEST = 4
-LONGEST_WORD = 8
 
 
 class Pipe:
@@ -98,12 +97,7 @@ def are_kinds(kinds):
     """Tells whether a thing is a dict of kinds of a pipe."""
     if not isinstance(kinds, dict) or not 1 <= len(kinds) <= MOST_KINDS:
         return False
-    return all([is_kind_word(kind) and is_kind(kinds[kind]) for kind in kinds])
-
-
-def is_kind_word(thing):
-    """Tells whether a thing is a word of small letters that is not too long."""
-    return isinstance(thing, str) and 1 <= len(thing) <= LONGEST_WORD and all([sign in LETTERS for sign in thing])
+    return all([is_word(kind) and is_kind(kinds[kind]) for kind in kinds])
 
 
 def is_kind(thing):
@@ -116,6 +110,12 @@ def is_kind(thing):
     if not is_number(length) or not 1 <= length <= LONGEST:
         return False
     return way is None or is_number(way) and 1 <= way < length
+
+
+def need_pipe(pipe):
+    """Raises BadPipe if a thing is no Pipe."""
+    if not isinstance(pipe, Pipe):
+        raise BadPipe(None)
 
 
 def check_program(pipe, program):

@@ -1,7 +1,7 @@
 """Whether pipes are right for all programs."""
 
 from beatwires.names import is_number
-from beatwires.pipes import Pipe, check_program, plain_reads, played
+from beatwires.pipes import Pipe, check_program, need_pipe, plain_reads, played
 from beatwires.pipesteps import GONE, PRESENT, WRITTEN
 from beatwires.planerrors import BadPipe
 
@@ -75,12 +75,6 @@ class Chosen:
 def copied_program(program):
     """A program as a new list; what is no list or tuple stays, and is told when it is looked at."""
     return list(program) if isinstance(program, (list, tuple)) else program
-
-
-def need_pipe(pipe):
-    """Raises BadPipe if a thing is no Pipe."""
-    if not isinstance(pipe, Pipe):
-        raise BadPipe(None)
 
 
 def check_choices(choices):

@@ -81,7 +81,7 @@ class Steps:
         self._ways = {}
         self._shown = {}
 
-    def moves(self, state):
+    def moves_from(self, state):
         """The moves from a state."""
         if state not in self._moves:
             self.work_out(self._places[state] >> self._loose)
@@ -89,11 +89,11 @@ class Steps:
 
     def heirs(self, state):
         """The list of the next states, perhaps more than once."""
-        return self.moves(state).heirs()
+        return self.moves_from(state).heirs()
 
     def row_to(self, state, heir):
         """The number of the first row that leads from a state to another one."""
-        return self.moves(state).row_to(heir, (1 << self.row_count) - 1)
+        return self.moves_from(state).row_to(heir, (1 << self.row_count) - 1)
 
     def shown(self, state):
         """The tuple of the planes over the rows of what is asked."""

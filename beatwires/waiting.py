@@ -27,7 +27,7 @@ class Waits:
         """The list of the states to which the rows of a plane lead, each once."""
         if not plane:
             return []
-        return sorted(set(self.steps.moves(state).where(plane)))
+        return sorted(set(self.steps.moves_from(state).where(plane)))
 
     def begins(self, states):
         """The dict from the states to which ticks lead at which it is due and does not come to where they do."""
@@ -58,4 +58,4 @@ class Waits:
 
     def row_by(self, state, plane, heir):
         """The first row of a plane from a state to another one."""
-        return self.steps.row(self.steps.moves(state).row_to(heir, plane))
+        return self.steps.row(self.steps.moves_from(state).row_to(heir, plane))

@@ -298,6 +298,41 @@ def sets(file, say):
                     say("L24", use, name)
 
 
+def both_ways(package, shared, generators, found):
+    """L18: a name may be a method of one class and an attribute of another one that is no relative, called with care."""
+    has, bases = {}, {}
+    for file in package:
+        for node in file.nodes:
+            if isinstance(node, ast.ClassDef):
+                methods = {one.name for one in node.body if isinstance(one, ast.FunctionDef)}
+                attributes = {one.attr for one in ast.walk(node) if isinstance(one, ast.Attribute)
+                              and isinstance(one.ctx, ast.Store) and getattr(one.value, "id", "") == "self"}
+                has[node.name] = (methods, attributes)
+                bases[node.name] = [one.id for one in node.bases if isinstance(one, ast.Name)]
+    for name in has:
+        family, left = [], [name]
+        while left:
+            family.append(left.pop())
+            left += [base for base in bases.get(family[-1], []) if base in has]
+        methods = set().union(*[has[one][0] for one in family])
+        attributes = set().union(*[has[one][1] for one in family])
+        for both in methods & attributes:
+            found.append(f"L18 {both} is a method and an attribute of {name}")
+    for file in package:
+        for node in file.nodes:
+            if isinstance(node, ast.FunctionDef) and node.name in shared and (
+                    node.decorator_list or node.name in generators):
+                found.append(f"L18 {file.path.name}:{node.lineno} {node.name}")
+            if isinstance(node, ast.Attribute) and getattr(node.value, "id", None) in has and node.attr != "__init__" \
+                    and node.attr in has[node.value.id][0]:
+                found.append(f"L18 {file.path.name}:{node.lineno} {node.attr} is read off a class")
+            if isinstance(node, ast.Call) and getattr(node.func, "attr", None) in shared:
+                around = file.function_of(node)
+                if around.name.startswith("__") and around.name not in ("__init__", "__call__") or any(
+                        isinstance(one, ast.Try) for one in ast.walk(around)):
+                    found.append(f"L18 {file.path.name}:{node.lineno} {node.func.attr}")
+
+
 def across(package, found):
     """What only shows over all files: methods and attributes that exist, generators, rings of imports."""
     methods, attributes, generators, functions = set(), set(), set(), []
@@ -314,8 +349,7 @@ def across(package, found):
     for name in generators:
         if functions.count(name) > 1 or name in METHODS:
             found.append(f"L23 the generator's name {name} stands twice")
-    for name in methods & attributes:
-        found.append(f"L18 {name} is a method and an attribute")
+    both_ways(package, methods & attributes, generators, found)
     for file in package:
         for node in file.nodes:
             if not isinstance(node, ast.Attribute) or not isinstance(node.ctx, ast.Load):
