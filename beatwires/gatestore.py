@@ -66,7 +66,7 @@ class GateStore:
             return "1" if turned else "0"
         if len(kept) == 1:
             return self.denied(kept[0]) if turned else kept[0]
-        return self.gate("xor", tuple(kept + ["1"] * turned))
+        return self.gate("xor", tuple(kept + (["1"] if turned else [])))
 
     def picked(self, asked, one, other):
         """The net that has the bit of one where asked has 1, and of the other where it has 0."""

@@ -1,5 +1,6 @@
 """Formulas of words read bit by bit, from the lowest one on."""
 
+from beatwires.likestates import numbered
 from beatwires.names import is_number
 from beatwires.termchecks import COMPARING, GREATEST_NUMBER, names_in
 
@@ -233,3 +234,21 @@ class Met:
             number, way = self.came_by[number]
             ways.append(way)
         return ways[::-1]
+
+
+class Merged:
+    """Standings that are met, as one where no bits tell them apart: whether the formula holds, and those behind."""
+
+    def __init__(self, met):
+        classes = numbered(dict(enumerate(met.truths)))
+        many = 0
+        while len(set(list(classes.values()))) > many:
+            many = len(set(list(classes.values())))
+            later = {at: tuple([classes[heir] for heir in heirs]) for at, heirs in enumerate(met.followers)}
+            classes = numbered({at: (classes[at], later[at]) for at in classes})
+        self.first = classes[0]
+        self.truths = [True] * many
+        self.followers = [()] * many
+        for at in classes:
+            self.truths[classes[at]] = met.truths[at]
+            self.followers[classes[at]] = [classes[heir] for heir in met.followers[at]]

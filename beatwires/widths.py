@@ -3,7 +3,7 @@
 from beatwires.names import is_number
 from beatwires.termchecks import names_in
 from beatwires.wideterms import are_values, need_parts, need_width, told_at
-from beatwires.wideword import Met, Reader
+from beatwires.wideword import Merged, Met, Reader
 
 
 class Always:
@@ -85,14 +85,14 @@ class Widths:
 
 def widths_of(formula):
     """The Widths of a formula."""
-    met = Met(Reader(need_parts(formula, True)), True)
-    heirs = [sorted(set(later)) for later in met.followers]
+    told = Merged(Met(Reader(need_parts(formula, True)), True))
+    heirs = [sorted(set(later)) for later in told.followers]
     truths = []
     seen = {}
-    layer = tuple(heirs[0])
+    layer = tuple(heirs[told.first])
     while layer not in seen:
         seen[layer] = len(truths)
-        truths.append(all([met.truths[number] for number in layer]))
+        truths.append(all([told.truths[number] for number in layer]))
         layer = tuple(sorted({heir for number in layer for heir in heirs[number]}))
     return shortest_widths(truths[:seen[layer]], truths[seen[layer]:])
 
@@ -113,8 +113,8 @@ def count_at(formula, width):
     """For how many values of its names a formula holds at a width."""
     parts = need_parts(formula, True)
     need_width(width)
-    met = Met(Reader(parts), True)
-    counts = [1 if holds else 0 for holds in met.truths]
+    told = Merged(Met(Reader(parts), True))
+    counts = [1 if truth else 0 for truth in told.truths]
     for _ in range(width):
-        counts = [sum([counts[heir] for heir in later]) for later in met.followers]
-    return counts[0]
+        counts = [sum([counts[heir] for heir in later]) for later in told.followers]
+    return counts[told.first]
