@@ -173,6 +173,11 @@ class TestShowing(unittest.TestCase):
                      (("a", "b"), (1, 2), (2, 3)), ("a", "b", "c"), ((0, 1), (1, 2), (2,)), ((0, 1), (1, 2), (2, 3, 3)),
                      ((0, 1), (1, 2), [2, 3])):
             self.assertFalse(self.shown(cuts=cuts), cuts)
+        # A piece has a wire at least: an empty one has no registers to share.
+        ring = Plan({"a": 5}, [("a", "a", 1)])
+        self.assertTrue(Fastest(5, {}, [], ["a"]).shows(ring))
+        for cuts in (((0, 1),), ((0, 1), (1, 1)), ((0, 0), (0, 1)), ((0, 0), (0, 0)), ((1, 1), (1, 1))):
+            self.assertFalse(Fastest(5, {}, [0], cuts).shows(ring))
         # Too short: one of the gates takes less.
         short = Plan({"a": 3, "b": 3, "c": 2}, RING)
         self.assertFalse(self.shown(6, plan=short))

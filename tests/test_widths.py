@@ -9,7 +9,7 @@ from beatwires.planerrors import BadTerm, BadWidth
 from beatwires.termchecks import ordered_parts
 from beatwires.wideterms import holds_at
 from beatwires.wideword import Reader
-from beatwires.widths import Always, Fails, Widths, count_at, judge_widths, widths_of
+from beatwires.widths import Always, Fails, Widths, count_at, judge_widths, shortest_widths, widths_of
 from tests import termdice
 from tests.test_wideterms import BAD_FORMULAS, nested
 
@@ -74,6 +74,21 @@ class TestStandings(unittest.TestCase):
                 self.assertIs(reader.tells(now), termdice.truth(formula, at + 1, cut))
             kinds |= {part[0] for part in termdice.parts(formula)}
         self.assertEqual(len(kinds), 16)
+
+    def test_what_may_stand(self):
+        for part, least, most in ((("+", X, Y), 0, 1), (("-", X, Y), 0, 1), (("times", 3, X), 0, 2), (("times", -3, X), -3, 0),
+                                  (("times", 0, X), 0, 0), (("times", 1, X), 0, 0), (("times", -1, X), -1, 0), (("times", 30, X), 0, 29),
+                                  (("up", 0, X), 0, 0), (("up", 2, X), 0, 3), (("up", 6, X), 0, 63)):
+            reader = Reader(ordered_parts(("equal", part, X), True))
+            told = [number for number in range(-70, 70) if reader.is_standing((number, 1))]
+            self.assertEqual(told, list(range(least, most + 1)), part)
+        for kind, most in (("equal", 1), ("less", 1), ("below", 3)):
+            reader = Reader(ordered_parts((kind, X, Y), True))
+            self.assertEqual([number for number in range(-5, 9) if reader.is_standing((number,))], list(range(most + 1)))
+        for number, halves in ((5, [0, 1, 2, 5]), (-5, [-5, -3, -2, -1]), (0, [0]), (-1, [-1]), (1000, [0, 1, 3, 7, 15, 31, 62, 125,
+                                                                                                   250, 500, 1000])):
+            reader = Reader(ordered_parts(("less", ("number", number), X), True))
+            self.assertEqual([told for told in range(-1100, 1100) if reader.is_standing((told, 0))], halves)
 
     def test_what_is_told(self):
         found = judge_widths(SUM)
@@ -280,6 +295,19 @@ class TestWidths(unittest.TestCase):
             self.assertEqual(bool(judge_widths(formula)), not front and period == [True])
             shapes.add((bool(front), len(period) > 1))
         self.assertTrue({(False, False), (True, False), (False, True)} <= shapes)
+
+    def test_as_short_as_can_be(self):
+        yes, no = True, False
+        for front, period, told in (([], [yes], ([], [yes])), ([], [yes, yes], ([], [yes])), ([yes, yes], [yes, yes], ([], [yes])),
+                                    ([no], [yes, no], ([], [no, yes])), ([yes], [no, yes], ([], [yes, no])),
+                                    ([yes, no], [yes, no], ([], [yes, no])), ([no, yes, no], [yes, no, yes, no], ([], [no, yes])),
+                                    ([yes], [yes, no, no], ([yes], [yes, no, no])), ([no, no], [yes, no, no], ([], [no, no, yes])),
+                                    ([yes, no], [yes, no, no], ([yes], [no, yes, no])), ([no], [yes, yes, no, yes, yes, no], ([], [no, yes, yes])),
+                                    ([yes, yes], [no, no], ([yes, yes], [no])), ([], [yes, no, yes, yes], ([], [yes, no, yes, yes]))):
+            found = shortest_widths(front, period)
+            self.assertEqual((found.front, found.period), told)
+            whole = front + period * 6
+            self.assertEqual([width in found for width in range(1, len(whole) + 1)], whole)
 
     def test_asking(self):
         found = Widths([True, False], (False, True, True))
