@@ -2,9 +2,8 @@
 
 from beatwires.bitplanes import first_place
 from beatwires.circuits import copied_rows, state_behind
-from beatwires.errors import BadFormula
 from beatwires.evidencerows import need_circuit, need_rows, register_names
-from beatwires.formulachecks import formula_bit, is_formula, names_of
+from beatwires.formulachecks import check_named, formula_bit
 from beatwires.layers import state_order, steps_of
 from beatwires.longestways import falling_way, longest_ways
 from beatwires.searching import is_closed, path_to, reach, rows_along, rows_to_goal, seek, stays_within
@@ -77,16 +76,7 @@ class Kept(Steps):
 def check_asked(circuit, formula):
     """Raises what is wrong with a circuit, and a formula of its names."""
     need_circuit(circuit)
-    check_names(circuit, formula)
-
-
-def check_names(circuit, formula):
-    """Raises BadFormula with the first name of a formula that is none of a circuit, with None if it is no formula."""
-    if not is_formula(formula):
-        raise BadFormula(None)
-    for name in names_of(formula):
-        if name not in circuit:
-            raise BadFormula(name)
+    check_named(formula, circuit)
 
 
 def bits_along(circuit, state, rows, formula):
@@ -216,7 +206,7 @@ class Never:
 def check_both(circuit, when, then):
     """Raises what is wrong with a circuit and two formulas of its names."""
     check_asked(circuit, when)
-    check_names(circuit, then)
+    check_named(then, circuit)
 
 
 def is_wait(circuit, state, rows, when, then):

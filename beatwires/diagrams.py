@@ -1,8 +1,8 @@
 """Diagrams: for which bits of the names of an order something holds."""
 
 from beatwires.diagramrows import EVER, NEVER, Branches, check_order, check_rows
-from beatwires.errors import BadDiagram, BadFormula
-from beatwires.formulachecks import is_formula, names_of
+from beatwires.errors import BadDiagram
+from beatwires.formulachecks import check_named
 from beatwires.names import is_bit
 
 
@@ -20,11 +20,7 @@ class Diagram:
     def of(formula, order):
         """The diagram of a formula of names of an order."""
         check_order(order)
-        if not is_formula(formula):
-            raise BadFormula(None)
-        for name in names_of(formula):
-            if name not in order:
-                raise BadFormula(name)
+        check_named(formula, order)
         branches = Branches()
         root = branches.of_formula(formula, {name: at for at, name in enumerate(order)})
         rows, top = branches.rows_of(root)

@@ -1,5 +1,6 @@
 """What is a formula, which names are in it, and which bit it has."""
 
+from beatwires.errors import BadFormula
 from beatwires.gatebits import JOINING, gate_bit
 from beatwires.names import is_bit, is_name
 
@@ -50,6 +51,15 @@ def names_of(formula):
             names.add(one[1])
         waiting.extend(parts_of(one))
     return sorted(names)
+
+
+def check_named(formula, known):
+    """Raises BadFormula with None if a thing is no formula, with the first of its names that is not a known one."""
+    if not is_formula(formula):
+        raise BadFormula(None)
+    for name in names_of(formula):
+        if name not in known:
+            raise BadFormula(name)
 
 
 def formula_bit(formula, bits):

@@ -1,5 +1,7 @@
 """Programs worked out on lists of nets, the lowest bit first."""
 
+from beatwires.stacks import taken_off
+
 ZERO = "0"
 
 
@@ -7,9 +9,7 @@ def nets_of(program, nets, stored, store):
     """The nets of a program, for those of the words, and lists of those of the words of memories, put in a store."""
     stack = []
     for step in program:
-        first = len(stack) - step[1]
-        taken = stack[first:]
-        del stack[first:]
+        taken = taken_off(stack, step[1])
         if step[0] == "read":
             stack.append(nets[step[3]])
         elif step[0] == "fetch":

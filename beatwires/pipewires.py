@@ -1,8 +1,7 @@
 """Pipes all of whose kinds have the same length as circuits, with registers of one bit."""
 
 from beatwires.circuits import Circuit
-from beatwires.errors import BadFormula
-from beatwires.formulachecks import is_formula, names_of, parts_of
+from beatwires.formulachecks import check_named, parts_of
 from beatwires.gatestore import GateStore
 from beatwires.netsteps import placed_at
 from beatwires.pipes import need_pipe
@@ -22,16 +21,7 @@ def check_wiring(pipe, results):
         raise BadPipe("results")
     for kind in pipe.kinds:
         if kind in results:
-            check_result(results[kind], read_names(pipe, kind))
-
-
-def check_result(formula, names):
-    """Raises BadFormula with None if a thing is no formula, with the first of its names that is not among some."""
-    if not is_formula(formula):
-        raise BadFormula(None)
-    for name in names_of(formula):
-        if name not in names:
-            raise BadFormula(name)
+            check_named(results[kind], read_names(pipe, kind))
 
 
 def read_names(pipe, kind):

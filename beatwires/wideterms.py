@@ -3,6 +3,7 @@
 from beatwires.bitnumbers import is_wide, lowest_bits
 from beatwires.names import is_number
 from beatwires.planerrors import BadTerm, BadWidth
+from beatwires.stacks import taken_off
 from beatwires.termchecks import names_in, ordered_parts
 
 WIDEST = 200
@@ -135,9 +136,7 @@ def told_at(parts, width, values):
     """The number or the truth of the last one of some ordered parts."""
     stack = []
     for part, many in parts:
-        first = len(stack) - many
-        taken = stack[first:]
-        del stack[first:]
+        taken = taken_off(stack, many)
         if part[0] == "name":
             stack.append(values[part[1]])
         elif part[0] in TERM_WORKERS:

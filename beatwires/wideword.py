@@ -2,6 +2,7 @@
 
 from beatwires.likestates import numbered
 from beatwires.names import is_number
+from beatwires.stacks import taken_off
 from beatwires.termchecks import COMPARING, GREATEST_NUMBER, names_in
 
 
@@ -167,9 +168,7 @@ class Reader:
         stack = []
         later = []
         for part, many in self._parts:
-            first = len(stack) - many
-            taken = stack[first:]
-            del stack[first:]
+            taken = taken_off(stack, many)
             if part[0] == "name":
                 stack.append(self._bits[part[1]])
             elif part[0] == "number":
@@ -190,9 +189,7 @@ class Reader:
         """Tells whether the formula holds at a standing."""
         stack = []
         for kind, many, at in self._truths:
-            first = len(stack) - many
-            taken = stack[first:]
-            del stack[first:]
+            taken = taken_off(stack, many)
             stack.append(truth_of(kind, taken, standing[at] if kind in COMPARING else 0))
         return stack[0]
 

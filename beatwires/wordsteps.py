@@ -1,15 +1,14 @@
 """Programs worked out on numbers."""
 
 from beatwires.bitnumbers import lowest_bits
+from beatwires.stacks import taken_off
 
 
 def number_of(program, numbers, stored):
     """The number that a program tells, for those of the words, and lists of those of the memories."""
     stack = []
     for step in program:
-        first = len(stack) - step[1]
-        taken = stack[first:]
-        del stack[first:]
+        taken = taken_off(stack, step[1])
         if step[0] == "read":
             stack.append(numbers[step[3]])
         elif step[0] == "fetch":
