@@ -5,6 +5,8 @@ from beatwires.pipes import Pipe, check_program, need_pipe, plain_reads, played
 from beatwires.pipesteps import GONE, PRESENT, WRITTEN
 from beatwires.planerrors import BadPipe
 
+MOST_CHOICES = 40
+
 
 class Right:
     """A pipe is right for all programs: a list of standings that no instruction leads out of, nor goes wrong in."""
@@ -78,8 +80,10 @@ def copied_program(program):
 
 
 def check_choices(choices):
-    """Raises BadPipe if a thing is no list or tuple of pairs of a price and a pipe."""
-    if not isinstance(choices, (list, tuple)) or not all([is_choice(thing) for thing in choices]):
+    """Raises BadPipe if a thing is no list or tuple of pairs of a price and a pipe, or has too many of them."""
+    if not isinstance(choices, (list, tuple)) or len(choices) > MOST_CHOICES:
+        raise BadPipe(None)
+    if not all([is_choice(thing) for thing in choices]):
         raise BadPipe(None)
 
 

@@ -226,6 +226,27 @@ class TestChosen(unittest.TestCase):
                     call(choices)
                 self.assertIsNone(caught.exception.name)
 
+    def test_as_many_as_may_be(self):
+        dear = [(2, LATE)] * 38
+        choices = [(1, LATE), *dear, (1, self.GOOD)]
+        for given in (choices, tuple(choices)):
+            self.assertEqual(len(given), 40)
+            found = cheapest_right(given)
+            self.assertEqual(found, Chosen(39, {}))
+            self.assertTrue(found.shows(given))
+            self.assertFalse(Chosen(0, {}).shows(given))
+        self.assertIsNone(cheapest_right([(1, LATE)] * 40))
+
+    def test_too_many(self):
+        for many in (41, 42, 1000):
+            for pair in ((3, self.GOOD), (3, LATE)):
+                for choices in ([pair] * many, (pair,) * many):
+                    for call in (cheapest_right, Chosen(0, {}).shows, Chosen(many, {}).shows, Chosen(0, {1: [5]}).shows):
+                        with self.assertRaises(BadPipe) as caught:
+                            call(choices)
+                        self.assertIsNone(caught.exception.name)
+                    self.assertEqual(len(choices), many)
+
     def test_copies_and_equality(self):
         program = [ADD]
         given = {1: program, 0: tuple(program)}
